@@ -7,29 +7,8 @@ import (
 
 	"saucier/api"
 	"saucier/ask"
+	"saucier/noise"
 )
-
-// mixedBits returns n bits that look like noise, the same ones each time.
-func mixedBits(n int) []bool {
-	l := make([]bool, n)
-	x := uint32(n)*2654435761 + 1
-	for i := range l {
-		x = x*1664525 + 1013904223
-		l[i] = x>>31 == 1
-	}
-	return l
-}
-
-// mixedWords returns n words that look like noise, the same ones each time.
-func mixedWords(n int) []uint16 {
-	l := make([]uint16, n)
-	x := uint32(n)*2654435761 + 1
-	for i := range l {
-		x = x*1664525 + 1013904223
-		l[i] = uint16(x >> 16)
-	}
-	return l
-}
 
 // rights returns right requests of all functions, with the least and the greatest counts, and others.
 func rights() []api.Ask {
@@ -48,14 +27,14 @@ func rights() []api.Ask {
 			l = append(l, api.Ask{Func: 6, At: at, Words: []uint16{w}})
 		}
 		for _, n := range []int{1, 2, 7, 8, 9, 15, 16, 17, 255, 256, 257, 1960, 1961, 1967, 1968} {
-			l = append(l, api.Ask{Func: 15, At: at, Many: uint16(n), Bits: mixedBits(n)}, api.Ask{Func: 15, At: at, Many: uint16(n), Bits: make([]bool, n)})
+			l = append(l, api.Ask{Func: 15, At: at, Many: uint16(n), Bits: noise.Bits(n)}, api.Ask{Func: 15, At: at, Many: uint16(n), Bits: make([]bool, n)})
 		}
 		for _, n := range []int{1, 2, 3, 122, 123} {
-			l = append(l, api.Ask{Func: 16, At: at, Many: uint16(n), Words: mixedWords(n)})
+			l = append(l, api.Ask{Func: 16, At: at, Many: uint16(n), Words: noise.Words(n)})
 		}
 		for _, n := range []int{1, 2, 3, 120, 121} {
 			for _, many := range []uint16{1, 2, 124, 125} {
-				l = append(l, api.Ask{Func: 23, At: at, Many: many, To: 3*at + 1, Words: mixedWords(n)})
+				l = append(l, api.Ask{Func: 23, At: at, Many: many, To: 3*at + 1, Words: noise.Words(n)})
 			}
 		}
 		l = append(l, api.Ask{Func: 23, At: at, Many: 7, To: 0, Words: []uint16{0}})
@@ -202,7 +181,7 @@ func TestUnpack(t *testing.T) {
 // TestUnpackOfPack: P2.1, the bits come back, with as many off as fill the last byte; so of more than a request can have.
 func TestUnpackOfPack(t *testing.T) {
 	for n := range 3000 {
-		bits := mixedBits(n)
+		bits := noise.Bits(n)
 		b := ask.Pack(bits)
 		if len(b) != (n+7)/8 {
 			t.Fatalf("%d bits in %d bytes", n, len(b))

@@ -6,6 +6,7 @@ import (
 
 	"saucier/api"
 	"saucier/crc"
+	"saucier/noise"
 )
 
 // plainNext is the chapter's definition, bit by bit.
@@ -30,24 +31,13 @@ func plainSum(b []byte) uint16 {
 	return sum
 }
 
-// mixed returns n bytes that look like noise, the same ones each time.
-func mixed(n int) []byte {
-	b := make([]byte, n)
-	x := uint32(n)*2654435761 + 1
-	for i := range b {
-		x = x*1664525 + 1013904223
-		b[i] = byte(x >> 24)
-	}
-	return b
-}
-
 // texts returns byte strings of many lengths, plain ones and noise.
 func texts() [][]byte {
 	l := [][]byte{nil, {}, {0}, {255}, {255, 255}, {0, 0}, {2, 7}, []byte("123456789")}
 	for n := range 40 {
-		l = append(l, make([]byte, n), bytes.Repeat([]byte{255}, n), mixed(n))
+		l = append(l, make([]byte, n), bytes.Repeat([]byte{255}, n), noise.Bytes(n))
 	}
-	return append(l, mixed(253), mixed(254), mixed(256), mixed(70000))
+	return append(l, noise.Bytes(253), noise.Bytes(254), noise.Bytes(256), noise.Bytes(70000))
 }
 
 // TestNext: P1.1, every check sum and every byte, though not every pair.
@@ -182,7 +172,7 @@ func TestCutErrors(t *testing.T) {
 
 // TestCutEnds: P1.2, of all pairs of bytes behind some others just one is their check sum.
 func TestCutEnds(t *testing.T) {
-	for _, b := range [][]byte{nil, {0}, {2, 7}, mixed(6)} {
+	for _, b := range [][]byte{nil, {0}, {2, 7}, noise.Bytes(6)} {
 		right := crc.Sum(b)
 		for sum := range 65536 {
 			want := api.ErrCheck
@@ -226,7 +216,7 @@ func TestCutOfPut(t *testing.T) {
 
 // TestInvertedBits: P1.3, all ways to invert bits within 16 neighbouring ones (in the order of the line, the lowest bit of a byte first), at all places of some frames.
 func TestInvertedBits(t *testing.T) {
-	for _, b := range [][]byte{nil, {2, 7}, mixed(4)} {
+	for _, b := range [][]byte{nil, {2, 7}, noise.Bytes(4)} {
 		frame := crc.Put(b)
 		for at := range 8 * len(frame) {
 			// The first bit is always inverted: a pattern without it begins at a later place.
